@@ -1,0 +1,1 @@
+"""Protests: claims, witnesses, rules."""

@@ -1,0 +1,143 @@
+"""A case as its lines tell it, and what is wrong with a line in a case."""
+
+from heardcase.forms import read_line, signs_of
+from heardcase.verdicts import PROVED, REFUTED
+
+MOST_CLAIMS = 64
+MOST_WITNESSES = 8
+MOST_LINES = 512
+
+NOTHING_WRONG = 0
+NOT_FORMED = 1
+TOO_MUCH = 2
+CANNOT_STAND = 3
+CLASHES = 4
+
+
+class Claim:
+    """What is told of one claim.
+
+    known is PROVED or REFUTED once it is seen or unseen, else 0. words has PROVED or REFUTED
+    for each witness (by number) who says or denies it. rules are pairs: what the rule makes of
+    the claim, and its conditions, which are pairs (wanted, claim's number).
+    """
+
+    def __init__(self):
+        self.known = 0
+        self.words = {}
+        self.rules = []
+
+
+class Case:
+    """A case: its claims and witnesses by number, and their numbers by name."""
+
+    def __init__(self):
+        self.lines = 0
+        self.claims = []
+        self.claim_numbers = {}
+        self.weights = []
+        self.witness_numbers = {}
+
+
+def claim_of(case, line):
+    return case.claims[case.claim_numbers[line.claim]]
+
+
+def can_stand(case, line):
+    numbers = case.claim_numbers
+    if line.kind != "claim" and line.claim != "" and line.claim not in numbers:
+        return False
+    before = numbers[line.claim] if line.kind in ("for", "against") else len(numbers)
+    for condition in line.conditions:
+        if numbers.get(condition[1], before) >= before:
+            return False
+    return True
+
+
+def clashes(case, line):
+    if line.kind == "claim":
+        return line.claim in case.claim_numbers
+    if line.kind == "weight":
+        # Who is known at all has a weight told already, or has said or denied something.
+        return line.who in case.witness_numbers
+    if line.kind in ("says", "denies"):
+        return case.witness_numbers.get(line.who) in claim_of(case, line).words
+    if line.kind in ("seen", "unseen"):
+        return claim_of(case, line).known != 0
+    return False
+
+
+def is_too_much(case, line):
+    if case.lines == MOST_LINES:
+        return True
+    if line.kind == "claim":
+        return len(case.claims) == MOST_CLAIMS
+    if line.kind in ("weight", "says", "denies"):
+        return line.who not in case.witness_numbers and len(case.weights) == MOST_WITNESSES
+    return False
+
+
+def what_is_wrong(case, line):
+    """Why the line can't come next in the case; the order of the reasons is the document's."""
+    if line is None:
+        return NOT_FORMED
+    if not can_stand(case, line):
+        return CANNOT_STAND
+    if clashes(case, line):
+        return CLASHES
+    if is_too_much(case, line):
+        return TOO_MUCH
+    return NOTHING_WRONG
+
+
+def enter_claim(case, name):
+    case.claim_numbers[name] = len(case.claims)
+    case.claims.append(Claim())
+
+
+def enter_witness(case, name, weight):
+    """Gives the witness's number; one who is known keeps number and weight."""
+    if name not in case.witness_numbers:
+        case.witness_numbers[name] = len(case.weights)
+        case.weights.append(weight)
+    return case.witness_numbers[name]
+
+
+def enter_rule(case, line, made):
+    conditions = [(wanted, case.claim_numbers[name]) for wanted, name in line.conditions]
+    claim_of(case, line).rules.append((made, conditions))
+
+
+def enter_line(case, line):
+    """Puts a line with which nothing is wrong into the case."""
+    case.lines += 1
+    if line.kind == "claim":
+        enter_claim(case, line.claim)
+    if line.kind == "weight":
+        enter_witness(case, line.who, line.amount)
+    if line.kind in ("says", "denies"):
+        witness = enter_witness(case, line.who, 1)
+        claim_of(case, line).words[witness] = PROVED if line.kind == "says" else REFUTED
+    if line.kind in ("seen", "unseen"):
+        claim_of(case, line).known = PROVED if line.kind == "seen" else REFUTED
+    if line.kind in ("for", "against"):
+        enter_rule(case, line, PROVED if line.kind == "for" else REFUTED)
+
+
+def enter_text(case, text):
+    """Puts the lines of a text (a list of bytes) into the case.
+
+    Gives the fault as a list of its line's number and why, or an empty list if there is none;
+    at a fault the case is left with the lines before it.
+    """
+    lines = signs_of(text).split("\n")
+    unended = lines.pop()
+    for signs in lines:
+        line = read_line(signs)
+        wrong = what_is_wrong(case, line)
+        if wrong != NOTHING_WRONG:
+            return [case.lines, wrong]
+        enter_line(case, line)
+    if unended != "":
+        return [case.lines, NOT_FORMED]
+    return []

@@ -103,9 +103,16 @@ def enter_witness(case, name, weight):
     return case.witness_numbers[name]
 
 
+def enter_words(case, line):
+    claim = claim_of(case, line)
+    witness = enter_witness(case, line.who, 1)
+    claim.words[witness] = PROVED if line.kind == "says" else REFUTED
+
+
 def enter_rule(case, line, made):
     conditions = [(wanted, case.claim_numbers[name]) for wanted, name in line.conditions]
-    claim_of(case, line).rules.append((made, conditions))
+    claim = claim_of(case, line)
+    claim.rules.append((made, conditions))
 
 
 def enter_line(case, line):
@@ -116,10 +123,10 @@ def enter_line(case, line):
     if line.kind == "weight":
         enter_witness(case, line.who, line.amount)
     if line.kind in ("says", "denies"):
-        witness = enter_witness(case, line.who, 1)
-        claim_of(case, line).words[witness] = PROVED if line.kind == "says" else REFUTED
+        enter_words(case, line)
     if line.kind in ("seen", "unseen"):
-        claim_of(case, line).known = PROVED if line.kind == "seen" else REFUTED
+        claim = claim_of(case, line)
+        claim.known = PROVED if line.kind == "seen" else REFUTED
     if line.kind in ("for", "against"):
         enter_rule(case, line, PROVED if line.kind == "for" else REFUTED)
 

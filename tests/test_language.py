@@ -22,6 +22,7 @@ BitOr BitXor LShift RShift Invert USub UAdd Not And Or Eq NotEq Lt LtE Gt GtE Is
 BANNED_WORDS = """type typing typing_extensions enum Enum IntEnum StrEnum Flag IntFlag Generic Protocol ABC ABCMeta
 namedtuple NamedTuple TypedDict TYPE_CHECKING abstractmethod""".split()
 BANNED_NAMES = """register mro elements open input version_info with_traceback add_note format format_map""".split()
+CHANGES = "append clear extend insert pop remove reverse setdefault update".split()
 TWO_UNDERSCORES = ["__init__", "__eq__", "__repr__", "__str__", "__len__"]
 
 
@@ -33,6 +34,26 @@ def all_bound_names(tree):
             yield node.id
         elif isinstance(node, (ast.FunctionDef, ast.ClassDef)):
             yield node.name
+
+
+def top_names(tree):
+    """The names of a file's top: its values, functions, classes and imports."""
+    names = []
+    for node in tree.body:
+        if isinstance(node, ast.ImportFrom):
+            names += [alias.name for alias in node.names]
+        elif isinstance(node, ast.Assign):
+            names += [target.id for target in node.targets]
+        elif isinstance(node, (ast.FunctionDef, ast.ClassDef)):
+            names.append(node.name)
+    return names
+
+
+def root_of(node):
+    """What an attribute or an index, or several of them, stand behind."""
+    while isinstance(node, (ast.Attribute, ast.Subscript)):
+        node = node.value
+    return node
 
 
 class LanguageTest(unittest.TestCase):
@@ -114,6 +135,19 @@ class LanguageTest(unittest.TestCase):
             for node in ast.walk(tree):
                 if isinstance(node, ast.Attribute) and node.attr not in values | methods:
                     self.assertIn(node.attr, METHODS, (name, node.lineno))
+
+    def test_values_are_given_through_a_local_name(self):
+        for name, tree in self.trees():
+            at_the_top = top_names(tree)
+            for node in ast.walk(tree):
+                if isinstance(node, (ast.Attribute, ast.Subscript)) and isinstance(node.ctx, ast.Store):
+                    root = root_of(node)
+                    self.assertIsInstance(root, ast.Name, (name, node.lineno))
+                    self.assertNotIn(root.id, at_the_top, (name, node.lineno))
+                if isinstance(node, ast.Call) and isinstance(node.func, ast.Attribute) and node.func.attr in CHANGES:
+                    root = root_of(node.func)
+                    self.assertIsInstance(root, ast.Name, (name, node.lineno))
+                    self.assertNotIn(root.id, at_the_top, (name, node.lineno))
 
     def test_words_that_stand_nowhere(self):
         for path in FILES:

@@ -1,7 +1,7 @@
 """A case as its lines tell it, and what is wrong with a line in a case."""
 
 from heardcase.forms import read_line, signs_of
-from heardcase.verdicts import PROVED, REFUTED
+from heardcase.verdicts import PROVED, REFUTED, fact
 
 MOST_CLAIMS = 64
 MOST_WITNESSES = 8
@@ -18,8 +18,7 @@ class Claim:
     """What is told of one claim.
 
     known is PROVED or REFUTED once it is seen or unseen, else 0. words has PROVED or REFUTED
-    for each witness (by number) who says or denies it. rules are pairs: what the rule makes of
-    the claim, and its conditions, which are pairs (wanted, claim's number).
+    for each witness (by number) who says or denies it. rules are in the order of their lines.
     """
 
     def __init__(self):
@@ -28,8 +27,25 @@ class Claim:
         self.rules = []
 
 
+class Rule:
+    """A rule for or against a claim: its line's number, what it makes of the claim, the facts it needs."""
+
+    def __init__(self, line_number, made, needed):
+        self.line_number = line_number
+        self.made = made
+        self.needed = needed
+
+
+class Boat:
+    """What is told of one boat: pairs (points, needed facts), and the facts needed for redress."""
+
+    def __init__(self):
+        self.penalties = []
+        self.redresses = []
+
+
 class Case:
-    """A case: its claims and witnesses by number, and their numbers by name."""
+    """A case: its claims and witnesses by number, their numbers by name, and its boats by name."""
 
     def __init__(self):
         self.lines = 0
@@ -37,6 +53,7 @@ class Case:
         self.claim_numbers = {}
         self.weights = []
         self.witness_numbers = {}
+        self.boats = {}
 
 
 def claim_of(case, line):
@@ -109,15 +126,31 @@ def enter_words(case, line):
     claim.words[witness] = PROVED if line.kind == "says" else REFUTED
 
 
-def enter_rule(case, line, made):
-    conditions = [(wanted, case.claim_numbers[name]) for wanted, name in line.conditions]
+def needed_by(case, line):
+    """The facts without which not all of the line's conditions hold."""
+    needed = 0
+    for wanted, name in line.conditions:
+        needed = needed | fact(wanted, case.claim_numbers[name])
+    return needed
+
+
+def enter_rule(case, line):
     claim = claim_of(case, line)
-    claim.rules.append((made, conditions))
+    made = PROVED if line.kind == "for" else REFUTED
+    claim.rules.append(Rule(case.lines, made, needed_by(case, line)))
+
+
+def enter_boat(case, line):
+    boat = case.boats.setdefault(line.who, Boat())
+    needed = needed_by(case, line)
+    if line.kind == "penalty":
+        boat.penalties.append((line.amount, needed))
+    else:
+        boat.redresses.append(needed)
 
 
 def enter_line(case, line):
     """Puts a line with which nothing is wrong into the case."""
-    case.lines += 1
     if line.kind == "claim":
         enter_claim(case, line.claim)
     if line.kind == "weight":
@@ -128,7 +161,11 @@ def enter_line(case, line):
         claim = claim_of(case, line)
         claim.known = PROVED if line.kind == "seen" else REFUTED
     if line.kind in ("for", "against"):
-        enter_rule(case, line, PROVED if line.kind == "for" else REFUTED)
+        enter_rule(case, line)
+    if line.kind in ("penalty", "redress"):
+        enter_boat(case, line)
+    # Last, as up to here this is the line's own number.
+    case.lines += 1
 
 
 def enter_text(case, text):

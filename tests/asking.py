@@ -4,6 +4,7 @@ from heardcase.desk import answers
 
 TEXT = [2]
 SIZES = [3]
+LAST = 4294967295
 WHY_NOT_FORMED, WHY_TOO_MUCH, WHY_NO_STAND, WHY_CLASH = 1, 2, 3, 4
 PROVED, REFUTED, OPEN = 1, 2, 3
 BY_SIGHT, BY_RULES, BY_WITNESSES = 1, 2, 3
@@ -23,6 +24,22 @@ def more(text):
 
 def claim(number, without=0):
     return [4, number, without]
+
+
+def rules(number, without=0):
+    return [5, number, without]
+
+
+def boat(name, without=0):
+    return [6, without, len(numbers(name))] + numbers(name)
+
+
+def witness(number):
+    return [7, number]
+
+
+def turn(number):
+    return [8, number]
 
 
 def told(text):
@@ -58,9 +75,17 @@ def fault(text):
     return (answer[1], answer[2])
 
 
+def of_case(text, call):
+    """What this call answers of the case of this text."""
+    taken, answer = ask(take(text), call)
+    if taken != [0]:
+        raise AssertionError(f"take answered {taken}")
+    return answer
+
+
 def settled(text, number=0, without=0):
     """A claim's (verdict, settled by) in the case of this text."""
-    taken, answer = ask(take(text), claim(number, without))
-    if taken != [0] or len(answer) != 3 or answer[0] != 0:
-        raise AssertionError(f"answered was {taken}, {answer}")
+    answer = of_case(text, claim(number, without))
+    if len(answer) != 3 or answer[0] != 0:
+        raise AssertionError(f"claim answered {answer}")
     return (answer[1], answer[2])

@@ -2,10 +2,9 @@
 
 import unittest
 
-from tests.asking import BY_RULES, BY_SIGHT, BY_WITNESSES, OPEN, PROVED, REFUTED, ask, claim, lines, settled, take
+from tests.asking import BY_RULES, BY_SIGHT, BY_WITNESSES, LAST, OPEN, PROVED, REFUTED, ask, claim, lines, settled, take
 
 KNOWN = lines("claim yes", "claim no", "claim maybe", "seen yes", "unseen no", "claim x")
-LAST = 4294967295
 
 
 class SightTest(unittest.TestCase):

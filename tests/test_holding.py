@@ -3,24 +3,33 @@
 import unittest
 
 from heardcase.desk import Desk
-from tests.asking import SIZES, TEXT, WHY_CLASH, WHY_NO_STAND, WHY_NOT_FORMED, WHY_TOO_MUCH, ask, claim, lines, more
-from tests.asking import numbers, take, told
+from tests.asking import SIZES, TEXT, WHY_CLASH, WHY_NO_STAND, WHY_NOT_FORMED, WHY_TOO_MUCH, ask, boat, claim, lines
+from tests.asking import more, numbers, rules, take, told, turn, witness
 
-FIRST = lines("claim a", "weight w 3", "says w a", "claim b", "for b if a", "denies v b")
-LOOK = [TEXT, SIZES, claim(0), claim(1), claim(1, 1), claim(0, 4), claim(2)]
+FIRST = lines("claim a", "weight w 3", "says w a", "claim b", "for b if a", "penalty q 5 if b", "redress q if not b",
+              "denies v b")
+FIRST_LINES = 8
+LOOK = [TEXT, SIZES, claim(0), claim(1), claim(1, 1), claim(0, 4), claim(2), rules(1), rules(1, 1), rules(0, 4),
+        rules(2), boat("q"), boat("q", 1), boat("q", 4), boat("r"), boat(""), witness(0), witness(1), witness(2),
+        turn(0), turn(1), turn(2)]
+FIRST_LOOK = [told(FIRST), [0, 2, 2, 8], [0, 1, 3], [0, 1, 2], [0, 2, 3], [-8], [-4], [1, 4], [0], [-8], [-4],
+              [0, 5, 0], [0, 0, 1], [-8], [0, 0, 0], [-8], told("w"), told("v"), [-4], [1, 1], [1, 1], [-4]]
+NEW_LOOK = [[0], [0, 0, 0, 0], [-4], [-4], [-8], [-8], [-4], [-4], [-8], [-8], [-4], [0, 0, 0], [-8], [-8], [0, 0, 0],
+            [-8], [-4], [-4], [-4], [-4], [-4], [-4]]
 FAULTY = [
     ("claim q", 0, WHY_NOT_FORMED), ("claim q\n\n", 1, WHY_NOT_FORMED), ("says w q\n", 0, WHY_NO_STAND),
     ("claim q\nseen q\nunseen q\n", 2, WHY_CLASH), ("claim q\nclaim a2\nseen r\n", 2, WHY_NO_STAND),
     ("claim q\nweight x 2\nsays y q\nseen q\nfor q if q\n", 4, WHY_NO_STAND),
+    ("claim q\npenalty q 9 if q\nredress q if open q\npenalty r 5 if open q\nclaim q\n", 4, WHY_CLASH),
 ]
 
 
 class TakeTest(unittest.TestCase):
     def test_new_it_holds_the_case_of_no_lines(self):
-        self.assertEqual(ask(TEXT, SIZES, claim(0)), [[0], [0, 0, 0, 0], [-4]])
+        self.assertEqual(ask(*LOOK), NEW_LOOK)
 
     def test_take_holds_the_case(self):
-        self.assertEqual(ask(take(FIRST), TEXT, SIZES), [[0], told(FIRST), [0, 2, 2, 6]])
+        self.assertEqual(ask(take(FIRST), *LOOK), [[0]] + FIRST_LOOK)
 
     def test_another_take_holds_that_one_alone(self):
         other = lines("claim q", "denies x q")
@@ -60,21 +69,30 @@ class MoreTest(unittest.TestCase):
         split = ask(*[more(row) for row in rows], *LOOK)
         self.assertEqual(split, [[0]] * len(rows) + ask(take(FIRST), *LOOK)[1:])
 
+    def test_all_calls_behind_a_more_that_is_taken(self):
+        before = lines("claim a", "says w2 a", "claim b", "for b if a", "redress q if b")
+        behind = lines("says w a", "against b if a", "claim c", "denies v c", "penalty q 7 if open b")
+        calls = [claim(1), rules(1), boat("q"), witness(1), turn(0), turn(1), turn(2), SIZES]
+        answered = ask(take(before), *calls, more(behind), *calls)
+        self.assertEqual(answered[1:9], [[0, 1, 2], [1, 3], [0, 0, 1], [-4], [1, 1], [1, 1], [-4], [0, 2, 1, 5]])
+        self.assertEqual(answered[9:], [[0], [0, 3, 2], [2, 3, 6], [0, 7, 0], told("w"), [2, 3], [-3], [1, 4],
+                                        [0, 3, 3, 10]])
+
     def test_more_of_nothing(self):
         self.assertEqual(ask(take(FIRST), more(""), *LOOK), [[0]] + ask(take(FIRST), *LOOK))
         self.assertEqual(ask(more(""), *LOOK), [[0]] + ask(*LOOK))
 
     def test_faults_by_the_numbers_of_the_whole_text(self):
         for text, line, why in FAULTY:
-            self.assertEqual(ask(take(FIRST), more(text))[1], [-6, 6 + line, why], text)
-        for text, line, why in [("claim a\n", 6, WHY_CLASH), ("says q b\nsays w a\n", 7, WHY_CLASH),
-                                ("weight v 2\n", 6, WHY_CLASH), ("for a if b\n", 6, WHY_NO_STAND)]:
+            self.assertEqual(ask(take(FIRST), more(text))[1], [-6, FIRST_LINES + line, why], text)
+        for text, line, why in [("claim a\n", 8, WHY_CLASH), ("says q b\nsays w a\n", 9, WHY_CLASH),
+                                ("weight v 2\n", 8, WHY_CLASH), ("for a if b\n", 8, WHY_NO_STAND)]:
             self.assertEqual(ask(take(FIRST), more(text))[1], [-6, line, why], text)
 
     def test_a_refused_more_leaves_the_case(self):
         held = ask(take(FIRST), *LOOK)[1:]
         for text, line, why in FAULTY:
-            self.assertEqual(ask(take(FIRST), more(text), *LOOK), [[0], [-6, 6 + line, why]] + held, text)
+            self.assertEqual(ask(take(FIRST), more(text), *LOOK), [[0], [-6, FIRST_LINES + line, why]] + held, text)
 
     def test_what_a_refused_more_told_can_be_told_again(self):
         text = lines("claim q", "says x q", "seen q")

@@ -23,6 +23,8 @@ BANNED_WORDS = """type typing typing_extensions enum Enum IntEnum StrEnum Flag I
 namedtuple NamedTuple TypedDict TYPE_CHECKING abstractmethod""".split()
 BANNED_NAMES = """register mro elements open input version_info with_traceback add_note format format_map""".split()
 CHANGES = "append clear extend insert pop remove reverse setdefault update".split()
+KEYWORDS = {"sorted": ["key", "reverse"], "min": ["key", "default"], "max": ["key", "default"], "sum": ["start"],
+            "enumerate": ["start"], "zip": ["strict"]}
 TWO_UNDERSCORES = ["__init__", "__eq__", "__repr__", "__str__", "__len__"]
 
 
@@ -148,6 +150,35 @@ class LanguageTest(unittest.TestCase):
                     root = root_of(node.func)
                     self.assertIsInstance(root, ast.Name, (name, node.lineno))
                     self.assertNotIn(root.id, at_the_top, (name, node.lineno))
+
+    def test_comprehensions_and_is(self):
+        for name, tree in self.trees():
+            for node in ast.walk(tree):
+                if isinstance(node, ast.ListComp):
+                    self.assertEqual(len(node.generators), 1, (name, node.lineno))
+                    self.assertLessEqual(len(node.generators[0].ifs), 1, (name, node.lineno))
+                if isinstance(node, ast.Compare) and isinstance(node.ops[0], (ast.Is, ast.IsNot)):
+                    self.assertIsInstance(node.comparators[0], ast.Constant, (name, node.lineno))
+                    self.assertIn(node.comparators[0].value, (None, True, False), (name, node.lineno))
+
+    def test_python_s_own_are_called_where_they_stand(self):
+        for name, tree in self.trees():
+            called = [node.func for node in ast.walk(tree) if isinstance(node, ast.Call)]
+            for node in ast.walk(tree):
+                if isinstance(node, ast.Attribute) and node.attr in METHODS:
+                    self.assertIn(node, called, (name, node.lineno))
+                if isinstance(node, ast.Call) and node.keywords:
+                    self.assertIsInstance(node.func, ast.Name, (name, node.lineno))
+                    for keyword in node.keywords:
+                        self.assertIn(keyword.arg, KEYWORDS.get(node.func.id, []), (name, node.lineno))
+
+    def test_classes_are_not_handed_on(self):
+        for name, tree in self.trees():
+            classes = [node.name for _, other in self.trees() for node in other.body if isinstance(node, ast.ClassDef)]
+            called = [node.func for node in ast.walk(tree) if isinstance(node, ast.Call)]
+            for node in ast.walk(tree):
+                if isinstance(node, ast.Name) and node.id in classes:
+                    self.assertIn(node, called, (name, node.lineno))
 
     def test_words_that_stand_nowhere(self):
         for path in FILES:

@@ -5,7 +5,8 @@ import random
 import re
 import unittest
 
-from tests.asking import BY_SIGHT, SIZES, TEXT, ask, claim, fault, lines, more, settled, take, told
+from tests.asking import BY_SIGHT, LAST, SIZES, TEXT, ask, boat, claim, fault, lines, more, of_case, rules, settled
+from tests.asking import take, told, turn, witness
 
 NAME = "[a-z0-9]{1,12}"
 CLAIM_NAME = f"(?!(?:not|open|if)(?: |$)){NAME}"
@@ -16,8 +17,8 @@ LINE_FORMS = [re.compile(form) for form in [
     f"(weight) (?P<who>{NAME}) (?P<amount>[1-9])",
     f"(says|denies) (?P<who>{NAME}) (?P<claim>{CLAIM_NAME})",
     f"(for|against) (?P<claim>{CLAIM_NAME}) if (?P<conditions>{CONDITIONS})",
-    f"(penalty) {NAME} [1-9][0-9]? if (?P<conditions>{CONDITIONS})",
-    f"(redress) {NAME} if (?P<conditions>{CONDITIONS})",
+    f"(penalty) (?P<boat>{NAME}) (?P<points>[1-9][0-9]?) if (?P<conditions>{CONDITIONS})",
+    f"(redress) (?P<boat>{NAME}) if (?P<conditions>{CONDITIONS})",
 ]]
 
 
@@ -93,6 +94,74 @@ def model_settle(rows, without):
     return list(found.values())
 
 
+def model_holds(rows, parts, without):
+    names = [other["claim"] for kind, other in rows if kind == "claim"]
+    verdicts = dict(zip(names, [verdict for verdict, _ in model_settle(rows, without)]))
+    return all(verdicts[on] == {"": 1, "not ": 2, "open ": 3}[sort] for sort, on in condition_pairs(parts))
+
+
+def model_claims(rows):
+    return [parts["claim"] for kind, parts in rows if kind == "claim"]
+
+
+def model_rules(rows, number, without):
+    name = model_claims(rows)[number]
+    going = [line for line, (kind, parts) in enumerate(rows)
+             if kind in ("for", "against") and parts["claim"] == name and model_holds(rows, parts, without)]
+    return [len(going)] + going
+
+
+def model_boat(rows, name, without):
+    hers = [(kind, parts) for kind, parts in rows if parts.get("boat") == name and model_holds(rows, parts, without)]
+    penalty = max([0] + [int(parts["points"]) for kind, parts in hers if kind == "penalty"])
+    return [0, penalty, int(penalty == 0 and "redress" in [kind for kind, _ in hers])]
+
+
+def model_turn(rows, number):
+    witnesses = range(len(model_witnesses(rows)))
+    for size in witnesses:
+        # combinations gives the rising rows in their order.
+        for members in itertools.combinations(witnesses, size + 1):
+            bits = sum(1 << k for k in members)
+            if model_settle(rows, bits)[number][0] != model_settle(rows, 0)[number][0]:
+                return [len(members), bits]
+    return [-3]
+
+
+def model_answer(held, call):
+    """What a call but take and more answers where this is the held case's text."""
+    rows = model_read(held)[0]
+    claims, witnesses = model_claims(rows), model_witnesses(rows)
+    sort, first = call[0], call[1] if len(call) > 1 else 0
+    without = {4: call[-1], 5: call[-1], 6: first}.get(sort, 0)
+    if sort == 2:
+        return told(held)
+    if sort == 3:
+        return [0, len(claims), len(witnesses), len(rows)]
+    if without >= 2 ** len(witnesses):
+        return [-8]
+    if sort == 6:
+        name = bytes(call[3:]).decode("latin-1")
+        return model_boat(rows, name, without) if re.fullmatch(NAME, name) else [-8]
+    if first >= len(witnesses if sort == 7 else claims):
+        return [-4]
+    if sort == 4:
+        return [0] + model_settle(rows, without)[first]
+    if sort == 5:
+        return model_rules(rows, first, without)
+    return told(witnesses[first]) if sort == 7 else model_turn(rows, first)
+
+
+def some_call(chance, most_claims=6, most_bits=9):
+    """A call but take and more; now and then with a number that is refused."""
+    number = chance.choice([LAST, 64]) if chance.random() < 0.05 else chance.randrange(most_claims)
+    without = chance.choice([LAST, 256]) if chance.random() < 0.05 else chance.randrange(most_bits)
+    name = chance.choice(["u", "v", "w", "not", "a", "", "U", "u\n", "x" * 12, "x" * 13])
+    return chance.choice([TEXT, SIZES, claim(number, without), rules(number, without), rules(number, without),
+                          boat(name, without), boat(chance.choice("uvw"), without), witness(number), turn(number),
+                          turn(number)])
+
+
 def some_line(chance, names, whos):
     def pick():
         return chance.choice(names)
@@ -154,6 +223,55 @@ class ModelTest(unittest.TestCase):
                 answered = ask(take(text), *[claim(k, without) for k in range(len(expected))])
                 self.assertEqual(answered[1:], expected, text)
 
+    def test_rules_boats_and_turns(self):
+        chance = random.Random(12)
+        for _ in range(300):
+            text = lines(*some_case(chance, whos="uvwx", rows=35))
+            rows = model_read(text)[0]
+            sets = range(2 ** len(model_witnesses(rows)))
+            numbers = range(len(model_claims(rows)))
+            calls = [rules(k, without) for k in numbers for without in sets] + [turn(k) for k in numbers]
+            calls += [boat(name, without) for name in "uvwx" for without in sets] + [witness(k) for k in range(5)]
+            calls = chance.sample(calls, min(len(calls), 40))
+            self.assertEqual(ask(take(text), *calls)[1:], [model_answer(text, call) for call in calls], text)
+
+    def test_turns_among_eight_witnesses(self):
+        chance = random.Random(13)
+        counts = set()
+        for _ in range(60):
+            rows = ["claim a", "claim b", "claim c", *[f"weight w{k} {chance.choice([1, 1, 2, 3])}" for k in range(8)]]
+            rows += [f"{chance.choice(['says', 'says', 'says', 'denies'])} w{k} {name}"
+                     for k in range(8) for name in "abc" if chance.random() < 0.5]
+            rows += [f"{chance.choice(['for', 'against'])} c if {chance.choice(['', 'not ', 'open '])}a",
+                     f"{chance.choice(['for', 'against'])} c if b {chance.choice(['', 'not ', 'open '])}a"]
+            text = lines(*rows)
+            answered = ask(take(text), turn(0), turn(1), turn(2))[1:]
+            self.assertEqual(answered, [model_turn(model_read(text)[0], k) for k in range(3)], text)
+            counts |= {answer[0] for answer in answered}
+        self.assertGreater(len(counts), 5)
+
+    def test_all_calls_among_one_another(self):
+        chance = random.Random(14)
+        for _ in range(30):
+            held = ""
+            calls, expected = [], []
+            while len(calls) < 100:
+                if chance.random() < 0.3:
+                    rows = [some_line(chance, "abcd", "uvw") for _ in range(chance.randint(0, 3))]
+                    text = lines(*rows)
+                    if chance.random() < 0.2:
+                        text = lines(*some_case(chance, "abcd", rows=20))
+                    text = spoiled(chance, text) if chance.random() < 0.1 else text
+                    is_take = chance.random() < 0.2
+                    wrong = model_read(text if is_take else held + text)[1]
+                    calls.append(take(text) if is_take else more(text))
+                    expected.append([-6, *wrong] if wrong else [0])
+                    held = held if wrong else text if is_take else held + text
+                else:
+                    calls.append(some_call(chance))
+                    expected.append(model_answer(held, calls[-1]))
+            self.assertEqual(ask(*calls), expected)
+
     def test_sizes(self):
         chance = random.Random(3)
         for _ in range(200):
@@ -186,6 +304,9 @@ class PromiseTest(unittest.TestCase):
         for _ in range(100):
             text = lines(*some_case(chance))
             look = [SIZES] + [claim(k, without) for k in range(5) for without in range(8)]
+            look += [rules(k, without) for k in range(5) for without in range(8)]
+            look += [boat(name, without) for name in "uvw" for without in range(8)]
+            look += [witness(k) for k in range(4)] + [turn(k) for k in range(6)]
             first = ask(take(text), TEXT, *look)
             self.assertEqual(ask(take(first[1][1:]), TEXT, *look), first)
 
@@ -199,6 +320,7 @@ class PromiseTest(unittest.TestCase):
                 later = {row.split()[1] for row in claims[number + 1:]}
                 kept = [row for row in rows if not tells_of(row, later)]
                 self.assertEqual(settled(text, number), settled(lines(*kept), number), text)
+                self.assertEqual(of_case(text, rules(number))[0], of_case(lines(*kept), rules(number))[0], text)
 
     def test_2_just_one_of_three(self):
         chance = random.Random(7)
@@ -233,6 +355,25 @@ class PromiseTest(unittest.TestCase):
             chance.shuffle(free)
             self.assertEqual([settled(lines(*fixed, *free), k) for k in range(count)], expected)
 
+    def test_3_boats_and_turns_in_another_order(self):
+        chance = random.Random(15)
+        for _ in range(100):
+            rows = list(some_case(chance, rows=40))
+            # Their weights ahead of all, in a row, keep the witnesses' numbers as they are.
+            whos = [f"weight {who} {chance.randint(1, 9)}" for who in "uvw"]
+            claims = [row for row in rows if row.startswith("claim ")]
+            free = [row for row in rows if not row.startswith(("claim ", "weight "))]
+            look = [turn(k) for k in range(len(claims))]
+            look += [boat(name, without) for name in "uvw" for without in range(8)]
+            expected = ask(take(lines(*whos, *claims, *free)), *look)
+            numbers = [of_case(lines(*whos, *claims, *free), rules(k)) for k in range(len(claims))]
+            chance.shuffle(free)
+            self.assertEqual(ask(take(lines(*whos, *claims, *free)), *look), expected)
+            moved = [of_case(lines(*whos, *claims, *free), rules(k)) for k in range(len(claims))]
+            self.assertEqual([answer[0] for answer in moved], [answer[0] for answer in numbers])
+            for answer in numbers + moved:
+                self.assertEqual(answer[1:], sorted(answer[1:]))
+
     def test_4_who_is_silent_on_a_claim_and_all_before_it_does_not_matter(self):
         chance = random.Random(9)
         tried = 0
@@ -250,6 +391,42 @@ class PromiseTest(unittest.TestCase):
                         self.assertEqual(settled(text, number, 1 << k), settled(text, number), text)
         self.assertGreater(tried, 50)
 
+    def test_4_no_turning_set_has_one_who_is_silent(self):
+        chance = random.Random(16)
+        tried = 0
+        for _ in range(100):
+            rows = list(some_case(chance, whos="uvwxyz", rows=40))
+            text = lines(*rows)
+            witnesses = model_witnesses(model_read(text)[0])
+            heard = set()
+            for number, own in enumerate([row for row in rows if row.startswith("claim ")]):
+                heard |= {row.split()[1] for row in rows
+                          if row.startswith(("says ", "denies ")) and row.split()[2] == own.split()[1]}
+                answer = of_case(text, turn(number))
+                if answer == [-3]:
+                    continue
+                members = {who for k, who in enumerate(witnesses) if answer[1] >> k & 1}
+                self.assertEqual(answer[0], len(members))
+                self.assertLessEqual(members, heard, text)
+                tried += len(members)
+        self.assertGreater(tried, 50)
+
+    def test_4_a_turning_set_is_as_small_as_can_be(self):
+        chance = random.Random(17)
+        for _ in range(60):
+            text = lines(*some_case(chance, whos="uvwx", rows=40))
+            rows = model_read(text)[0]
+            sets = range(2 ** len(model_witnesses(rows)))
+            for number in range(len(model_claims(rows))):
+                verdicts = [settled(text, number, bits)[0] for bits in sets]
+                turning = [bits for bits in sets if verdicts[bits] != verdicts[0]]
+                answer = of_case(text, turn(number))
+                if not turning:
+                    self.assertEqual(answer, [-3], text)
+                else:
+                    self.assertIn(answer[1], turning, text)
+                    self.assertEqual(answer[0], min(bits.bit_count() for bits in turning), text)
+
     def test_5_a_rule_more_that_does_not_go_changes_nothing(self):
         chance = random.Random(10)
         tried = 0
@@ -264,6 +441,9 @@ class PromiseTest(unittest.TestCase):
                         rule = f"{chance.choice(['for', 'against'])} {names[second]} if {sort}{names[first]}\n"
                         tried += 1
                         self.assertEqual([settled(text + rule, k) for k in range(len(names))], expected, rule)
+                        self.assertEqual(of_case(text + rule, rules(second)), of_case(text, rules(second)), rule)
+                        for name in "uvw":
+                            self.assertEqual(of_case(text + rule, boat(name)), of_case(text, boat(name)), rule)
         self.assertGreater(tried, 50)
 
     def test_5_seen_outweighs_all(self):
@@ -274,6 +454,8 @@ class PromiseTest(unittest.TestCase):
                 for word, verdict in [("seen", 1), ("unseen", 2)]:
                     text = lines(*rows, f"{word} {own.split()[1]}")
                     self.assertEqual(settled(text, number), (verdict, BY_SIGHT), text)
+                    self.assertEqual(of_case(text, turn(number)), [-3], text)
+
 
 def tells_of(row, names):
     """Whether a row tells or names one of these claims."""
